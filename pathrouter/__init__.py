@@ -1,0 +1,1 @@
+"""A router that is told paths."""

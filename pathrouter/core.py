@@ -1,0 +1,158 @@
+"""The router: its neighbours, what stands of each network, and the row of pairs that wait."""
+
+from pathrouter.routes import Neighbour, Route, best_of, should_be_told
+
+NEIGHBOURS = 8
+ADDRESS_BITS = 32
+LONGEST_PATH = 16
+GREATEST_ORIGIN = 2
+TOO_MANY_NETWORKS = 4096
+
+DONE = 0
+REFUSED = -1
+FULL = -2
+
+
+def is_network(net, bits):
+    if bits < 0 or bits > ADDRESS_BITS:
+        return False
+    return net % (1 << (ADDRESS_BITS - bits)) == 0
+
+
+def is_route(net, bits, count, origin):
+    if not is_network(net, bits):
+        return False
+    return 1 <= count <= LONGEST_PATH and 0 <= origin <= GREATEST_ORIGIN
+
+
+class Entry:
+    """What stands of one network: by neighbour the route it told, and what it was told last."""
+
+    def __init__(self):
+        self.routes = {}
+        # A neighbour that was told nothing, or that it is taken back, has no place here.
+        self.told = {}
+
+    def is_empty(self):
+        return len(self.routes) == 0 and len(self.told) == 0
+
+    def best_route(self):
+        return best_of([self.routes[k] for k in sorted(self.routes)])
+
+
+class Router:
+    """One method for each call, and what they share. A network is the pair (net, bits)."""
+
+    def __init__(self):
+        self.begin(0)
+
+    def begin(self, self_number):
+        self.self_number = self_number
+        self.neighbours = [None] * NEIGHBOURS
+        # Only networks whose entry is not empty are here, so that their number is the one that is limited.
+        self.networks = {}
+        # A dict keeps the order in which its keys came, and holds each pair (k, network) once.
+        self.waiting = {}
+        return DONE
+
+    def up(self, k, as_number, ident):
+        if not 0 <= k < NEIGHBOURS or self.is_up(k):
+            return REFUSED
+        self.neighbours[k] = Neighbour(k, as_number, ident)
+        for network in self.networks_with_route():
+            self.waiting[(k, network)] = True
+        return DONE
+
+    def down(self, k):
+        if not self.is_up(k):
+            return REFUSED
+        self.neighbours[k] = None
+        self.forget_pairs(k)
+        for network in self.forget_all(k):
+            self.look_at(network)
+        return DONE
+
+    def tell(self, k, net, bits, count, pref, origin, med, path):
+        if not self.is_up(k) or not is_route(net, bits, count, origin):
+            return REFUSED
+        network = (net, bits)
+        route = Route(self.neighbours[k], tuple(path[:count]), pref, origin, med)
+        if self.self_number in route.path:
+            self.forget(k, network)
+        elif self.has_room_for(network):
+            self.hold(k, network, route)
+        else:
+            return FULL
+        self.look_at(network)
+        return DONE
+
+    def back(self, k, net, bits):
+        if not self.is_up(k) or not is_network(net, bits):
+            return REFUSED
+        network = (net, bits)
+        if k in self.entry_of(network).routes:
+            self.forget(k, network)
+            self.look_at(network)
+        return DONE
+
+    def is_up(self, k):
+        return 0 <= k < NEIGHBOURS and self.neighbours[k] is not None
+
+    def entry_of(self, network):
+        if network in self.networks:
+            return self.networks[network]
+        return Entry()
+
+    def networks_with_route(self):
+        return sorted([network for network in self.networks if len(self.networks[network].routes) > 0])
+
+    def has_room_for(self, network):
+        then_known = len(self.networks)
+        if network not in self.networks:
+            then_known = then_known + 1
+        return then_known < TOO_MANY_NETWORKS
+
+    def hold(self, k, network, route):
+        entry = self.entry_of(network)
+        entry.routes[k] = route
+        self.networks[network] = entry
+
+    def forget(self, k, network):
+        self.entry_of(network).routes.pop(k, None)
+        self.drop_if_empty(network)
+
+    def forget_all(self, k):
+        """Forgets k's routes and what it was told; gives the networks it had a route of, in their order."""
+        order = sorted(self.networks)
+        had_route = []
+        for network in order:
+            entry = self.networks[network]
+            if k in entry.routes:
+                had_route.append(network)
+            entry.told.pop(k, None)
+            self.forget(k, network)
+        return had_route
+
+    def drop_if_empty(self, network):
+        if self.entry_of(network).is_empty():
+            self.networks.pop(network, None)
+
+    def forget_pairs(self, k):
+        for pair in list(self.waiting):
+            if pair[0] == k:
+                self.waiting.pop(pair)
+
+    def look_at(self, network):
+        entry = self.entry_of(network)
+        best = entry.best_route()
+        for k, neighbour in enumerate(self.neighbours):
+            if neighbour is not None:
+                due = should_be_told(best, neighbour, self.self_number)
+                self.wait_if_due((k, network), due, entry.told.get(k))
+
+    def wait_if_due(self, pair, due, told):
+        if due == told:
+            self.waiting.pop(pair, None)
+        else:
+            # A key that is there already stays in its place.
+            self.waiting[pair] = True
