@@ -11,18 +11,36 @@ TOO_MANY_NETWORKS = 4096
 DONE = 0
 REFUSED = -1
 FULL = -2
+# Answered in the place of a neighbour's number.
+NOBODY = 8
+
+
+def first_bits(number, bits):
+    """The number with 0 for all its bits behind the first ones."""
+    return number - number % (1 << (ADDRESS_BITS - bits))
 
 
 def is_network(net, bits):
-    if bits < 0 or bits > ADDRESS_BITS:
-        return False
-    return net % (1 << (ADDRESS_BITS - bits)) == 0
+    return 0 <= bits <= ADDRESS_BITS and first_bits(net, bits) == net
 
 
 def is_route(net, bits, count, origin):
     if not is_network(net, bits):
         return False
     return 1 <= count <= LONGEST_PATH and 0 <= origin <= GREATEST_ORIGIN
+
+
+def route_numbers(network, path, pref, origin, med):
+    """A route as it is answered."""
+    rest = [0] * (LONGEST_PATH - len(path))
+    return [network[0], network[1], len(path), pref, origin, med] + list(path) + rest
+
+
+def told_numbers(network, what):
+    """What a neighbour is told, as it is answered: pref and med are not passed on."""
+    if what is None:
+        return route_numbers(network, (), 0, 0, 0)
+    return route_numbers(network, what[0], 0, what[1], 0)
 
 
 class Entry:
@@ -59,7 +77,7 @@ class Router:
         if not 0 <= k < NEIGHBOURS or self.is_up(k):
             return REFUSED
         self.neighbours[k] = Neighbour(k, as_number, ident)
-        for network in self.networks_with_route():
+        for network in sorted(self.networks_with_route()):
             self.waiting[(k, network)] = True
         return DONE
 
@@ -95,6 +113,40 @@ class Router:
             self.look_at(network)
         return DONE
 
+    def next_told(self):
+        """The neighbour and the numbers of what it is told; NOBODY alone if no pair waits any more."""
+        for pair in list(self.waiting):
+            self.waiting.pop(pair)
+            k = pair[0]
+            network = pair[1]
+            # Up lets pairs wait without asking whether there is something to tell.
+            due = self.due_to(k, network)
+            if due != self.entry_of(network).told.get(k):
+                self.keep_told(k, network, due)
+                return [k] + told_numbers(network, due)
+        return [NOBODY]
+
+    def best(self, net, bits):
+        """The neighbour and the numbers of its route, or NOBODY or REFUSED alone."""
+        if not is_network(net, bits):
+            return [REFUSED]
+        network = (net, bits)
+        route = self.entry_of(network).best_route()
+        if route is None:
+            return [NOBODY]
+        return [route.teller.number] + route_numbers(network, route.path, route.pref, route.origin, route.med)
+
+    def send(self, address):
+        for bits in range(ADDRESS_BITS, -1, -1):
+            route = self.entry_of((first_bits(address, bits), bits)).best_route()
+            if route is not None:
+                return route.teller.number
+        return NOBODY
+
+    def count_networks(self):
+        # Not all that are known: some have no route and only stand as what a neighbour was told.
+        return len(self.networks_with_route())
+
     def is_up(self, k):
         return 0 <= k < NEIGHBOURS and self.neighbours[k] is not None
 
@@ -104,7 +156,7 @@ class Router:
         return Entry()
 
     def networks_with_route(self):
-        return sorted([network for network in self.networks if len(self.networks[network].routes) > 0])
+        return [network for network in self.networks if len(self.networks[network].routes) > 0]
 
     def has_room_for(self, network):
         then_known = len(self.networks)
@@ -141,6 +193,18 @@ class Router:
         for pair in list(self.waiting):
             if pair[0] == k:
                 self.waiting.pop(pair)
+
+    def due_to(self, k, network):
+        best = self.entry_of(network).best_route()
+        return should_be_told(best, self.neighbours[k], self.self_number)
+
+    def keep_told(self, k, network, what):
+        entry = self.entry_of(network)
+        if what is None:
+            entry.told.pop(k, None)
+            self.drop_if_empty(network)
+        else:
+            entry.told[k] = what
 
     def look_at(self, network):
         entry = self.entry_of(network)

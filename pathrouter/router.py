@@ -7,9 +7,12 @@ UP = 2
 DOWN = 3
 TELL = 4
 BACK = 5
+NEXT = 6
+BEST = 7
+SEND = 8
 
 # By a call's number: how many numbers it has in the list, its own among them. A path always has 16.
-WIDTHS = {1: 2, 2: 4, 3: 2, 4: 25, 5: 4}
+WIDTHS = {1: 2, 2: 4, 3: 2, 4: 25, 5: 4, 6: 1, 7: 3, 8: 2, 9: 1}
 
 
 def answer_tell(router, numbers):
@@ -24,16 +27,30 @@ def answer_tell(router, numbers):
     return router.tell(k, net, bits, count, pref, origin, med, numbers[8:])
 
 
-def answer(router, call, numbers):
+def answer_one(router, call, numbers):
+    """Of the calls that always answer one number: that number."""
     if call == BEGIN:
-        return [router.begin(numbers[0])]
+        return router.begin(numbers[0])
     if call == UP:
-        return [router.up(numbers[0], numbers[1], numbers[2])]
+        return router.up(numbers[0], numbers[1], numbers[2])
     if call == DOWN:
-        return [router.down(numbers[0])]
+        return router.down(numbers[0])
     if call == TELL:
-        return [answer_tell(router, numbers)]
-    return [router.back(numbers[0], numbers[1], numbers[2])]
+        return answer_tell(router, numbers)
+    if call == BACK:
+        return router.back(numbers[0], numbers[1], numbers[2])
+    if call == SEND:
+        return router.send(numbers[0])
+    return router.count_networks()
+
+
+def answer(router, call, numbers):
+    """All the numbers that one call answers; handed in are those behind its own number."""
+    if call == NEXT:
+        return router.next_told()
+    if call == BEST:
+        return router.best(numbers[0], numbers[1])
+    return [answer_one(router, call, numbers)]
 
 
 def answers(calls):

@@ -1,11 +1,20 @@
 """What the tests share: calls as lists of numbers, and routers to look into."""
 
 from pathrouter.core import Router
-from pathrouter.routes import should_be_told
 
 SELF = 100
 INT_ENDS = (-2147483648, 2147483647)
 GREATEST = 4294967295
+# Networks, among them those with the fewest and the most bits.
+NETWORKS = (
+    (0, 0), (0, 1), (1 << 31, 1), (0, 8), (10 << 24, 8), (0xFFFFFF00, 24), (0xFFFFFFFE, 31), (0, 31),
+    (0, 32), (1, 32), (GREATEST, 32),
+)
+# A bit set that doesn't count, or a count of bits that there can't be.
+NO_NETWORKS = (
+    (1, 0), (1 << 31, 0), (GREATEST, 0), (1 << 30, 1), ((10 << 24) + 1, 8), ((10 << 24) + (1 << 23), 8),
+    (1, 31), (0xFFFFFF80, 24), (0, -1), (0, 33), (GREATEST, 33), (0, INT_ENDS[0]), (0, INT_ENDS[1]),
+)
 
 
 def padded(path, rest=0):
@@ -33,6 +42,31 @@ def back(k, net, bits):
     return [5, k, net, bits]
 
 
+def next_told():
+    return [6]
+
+
+def best(net, bits):
+    return [7, net, bits]
+
+
+def send(address):
+    return [8, address]
+
+
+def count():
+    return [9]
+
+
+def line(*calls):
+    return [number for call in calls for number in call]
+
+
+def route(k, net, bits, path, pref=0, origin=0, med=0):
+    """A route as next and best answer it; without a path it is taken back."""
+    return [k, net, bits, len(path), pref, origin, med] + padded(path)
+
+
 def do(router, call):
     """One call, given as in the list of calls, on a router that the test can look into."""
     numbers = call[1:]
@@ -44,7 +78,15 @@ def do(router, call):
         return router.down(*numbers)
     if call[0] == 4:
         return router.tell(*numbers[:7], numbers[8:])
-    return router.back(*numbers)
+    if call[0] == 5:
+        return router.back(*numbers)
+    if call[0] == 6:
+        return router.next_told()
+    if call[0] == 7:
+        return router.best(*numbers)
+    if call[0] == 8:
+        return router.send(*numbers)
+    return router.count_networks()
 
 
 def do_all(router, calls):
@@ -64,40 +106,31 @@ def row(router):
     return [(k, net, bits) for k, (net, bits) in router.waiting]
 
 
-def set_told(router, k, net, bits, path, origin):
-    """As if k was told this last, and the pair was taken from the row for it."""
-    router.networks[(net, bits)].told[k] = (tuple(path), origin)
-    router.waiting.pop((k, (net, bits)), None)
-
-
 def take_all(router):
-    """As if each pair that waits was taken from the row, and the neighbour told what it should be."""
-    for k, network in list(router.waiting):
-        due = due_for(router, k, *network)
-        if due is None:
-            router.networks[network].told.pop(k, None)
-            router.drop_if_empty(network)
-        else:
-            router.networks[network].told[k] = due
-    router.waiting.clear()
+    """All that next answers until none waits any more."""
+    taken = []
+    while True:
+        answer = router.next_told()
+        if answer == [8]:
+            return taken
+        taken.append(answer)
 
 
 def due_for(router, k, net, bits):
-    best = router.entry_of((net, bits)).best_route()
-    return should_be_told(best, router.neighbours[k], router.self_number)
+    return router.due_to(k, (net, bits))
 
 
 def best_teller(router, net, bits):
-    best = router.entry_of((net, bits)).best_route()
-    return None if best is None else best.teller.number
+    teller = router.best(net, bits)[0]
+    return None if teller == 8 else teller
 
 
 def held(router):
     """The routes that are held, by (k, net, bits)."""
     return {
-        (k, net, bits): (route.path, route.pref, route.origin, route.med)
+        (k, net, bits): (held_route.path, held_route.pref, held_route.origin, held_route.med)
         for (net, bits), entry in router.networks.items()
-        for k, route in entry.routes.items()
+        for k, held_route in entry.routes.items()
     }
 
 

@@ -2,7 +2,7 @@ import unittest
 
 from pathrouter.core import Router
 from tests.helper import (
-    GREATEST, INT_ENDS, SELF, all_of, back, begin, do, do_all, down, due_for, held, router_with, row, set_told,
+    GREATEST, INT_ENDS, SELF, all_of, back, begin, do, do_all, down, due_for, held, next_told, router_with, row,
     take_all, tell, told, up,
 )
 
@@ -19,7 +19,8 @@ class Begin(unittest.TestCase):
     def test_begin_later_leaves_nothing(self):
         router = router_with(0, 1)
         do_all(router, [tell(0, 0, 0), tell(1, 1, 32)])
-        set_told(router, 0, 1, 32, (SELF, 1), 0)
+        do(router, next_told())
+        self.assertNotEqual(told(router), {})
         self.assertNotEqual(row(router), [])
         self.assertEqual(do(router, begin(7)), 0)
         self.assertEqual(all_of(router), (7, [None] * 8, {}, {}, [], []))

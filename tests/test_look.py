@@ -1,7 +1,7 @@
 import unittest
 
 from tests.helper import (
-    GREATEST, SELF, back, do, do_all, due_for, router_with, row, set_told, take_all, tell, told, up,
+    GREATEST, SELF, back, do, do_all, due_for, next_told, router_with, row, take_all, tell, told, up,
 )
 
 
@@ -87,7 +87,8 @@ class LookedAt(unittest.TestCase):
     def test_what_was_told_last_need_not_be_told(self):
         router = router_with(0, 1, 2)
         do(router, tell(0, 9, 32, (5,), origin=1))
-        set_told(router, 1, 9, 32, (SELF, 5), 1)
+        do(router, next_told())
+        self.assertEqual(told(router), {(1, 9, 32): ((SELF, 5), 1)})
         do(router, tell(0, 9, 32, (5,), pref=7, origin=1, med=7))
         self.assertEqual(row(router), [(2, 9, 32)])
 
@@ -111,10 +112,9 @@ class LookedAt(unittest.TestCase):
     def test_taken_back_waits_only_if_something_was_told(self):
         router = router_with(0, 1, 2)
         do(router, tell(0, 9, 32))
-        set_told(router, 2, 9, 32, (SELF, 1), 0)
-        do(router, back(0, 9, 32))
-        self.assertEqual(row(router), [(2, 9, 32)])
-        self.assertEqual(told(router), {(2, 9, 32): ((SELF, 1), 0)})
+        do_all(router, [next_told(), back(0, 9, 32)])
+        self.assertEqual(row(router), [(1, 9, 32)])
+        self.assertEqual(told(router), {(1, 9, 32): ((SELF, 1), 0)})
 
     def test_after_taken_back_was_told_nothing_waits(self):
         router = router_with(0, 1)

@@ -4,10 +4,17 @@ import random
 import unittest
 
 from pathrouter.core import Router
-from tests.helper import all_of, back, begin, do, down, set_told, take_all, tell, up
+from pathrouter.router import answers
+from tests.helper import all_of, back, begin, best, count, do, down, line, next_told, send, tell, up
 
 NUMBERS = (0, 1, 2, 3)
 NETWORKS = ((0, 0), (0, 1), (1 << 31, 1), (0, 32), (1, 32), (1 << 30, 2), (1 << 31, 32))
+ADDRESSES = (0, 1, 2, 1 << 30, (1 << 31) - 1, 1 << 31, (1 << 31) + 1, (1 << 32) - 1)
+
+# What the mixed calls must have come to: the call, what it answers first, and whether that is taken back.
+KINDS = [(call, 0, False) for call in (1, 2, 3, 4, 5)] + [(call, -1, False) for call in (2, 3, 4, 5, 7)]
+KINDS += [(call, k, False) for call in (6, 7, 8) for k in range(9)] + [(6, k, True) for k in range(8)]
+KINDS += [(9, counted, False) for counted in range(len(NETWORKS) + 1)]
 
 
 class Plain:
@@ -68,14 +75,18 @@ class Plain:
         mine = (-pref, len(path), origin, med if alike else 0, self.ups[one], one)
         return mine < (-pref2, len(path2), origin2, med2 if alike else 0, self.ups[other], other)
 
+    def best_teller(self, network):
+        best_so_far = None
+        for k in range(8):
+            if (k,) + network in self.routes and (best_so_far is None or self.beats(k, best_so_far, network)):
+                best_so_far = k
+        return best_so_far
+
     def due(self, k, network):
-        best = None
-        for other in range(8):
-            if (other,) + network in self.routes and (best is None or self.beats(other, best, network)):
-                best = other
-        if best is None or best == k:
+        teller = self.best_teller(network)
+        if teller is None or teller == k:
             return None
-        path, _, origin, _ = self.routes[(best,) + network]
+        path, _, origin, _ = self.routes[(teller,) + network]
         if self.ups[k][0] in path or len(path) > 15:
             return None
         return ((self.number,) + path, origin)
@@ -88,13 +99,39 @@ class Plain:
             elif pair not in self.row:
                 self.row.append(pair)
 
-    def take_all(self):
-        for pair in self.row:
+    def next_told(self):
+        while self.row:
+            pair = self.row[0]
+            self.row = self.row[1:]
             what = self.due(pair[0], pair[1:])
-            self.told.pop(pair, None)
+            if what != self.told.pop(pair, None):
+                if what is None:
+                    return list(pair) + [0] * 20
+                self.told[pair] = what
+                path, origin = what
+                return list(pair) + [len(path), 0, origin, 0] + (list(path) + [0] * 16)[:16]
             if what is not None:
                 self.told[pair] = what
-        self.row = []
+        return [8]
+
+    def best(self, net, bits):
+        if not self.is_network(net, bits):
+            return [-1]
+        teller = self.best_teller((net, bits))
+        if teller is None:
+            return [8]
+        path, pref, origin, med = self.routes[(teller, net, bits)]
+        return [teller, net, bits, len(path), pref, origin, med] + (list(path) + [0] * 16)[:16]
+
+    def send(self, address):
+        holding = [(bits, net) for net, bits in self.networks() if f"{net:032b}"[:bits] == f"{address:032b}"[:bits]]
+        if not holding:
+            return 8
+        bits, net = max(holding)
+        return self.best_teller((net, bits))
+
+    def count_networks(self):
+        return len(self.networks())
 
     def all_of(self):
         neighbours = [(k,) + self.ups[k] if k in self.ups else None for k in range(8)]
@@ -102,9 +139,22 @@ class Plain:
         return (self.number, neighbours, self.routes, self.told, self.row, stands)
 
 
+def some_asking_call(chance, net, bits):
+    kind = chance.random()
+    if kind < 0.6:
+        return next_told()
+    if kind < 0.75:
+        return best(net, bits)
+    if kind < 0.9:
+        return send(chance.choice(ADDRESSES))
+    return count()
+
+
 def some_call(chance):
     k = chance.choice((0, 1, 2, 3, 4, 5, 6, 7, 0, 1, 2, -1, 8))
     net, bits = chance.choice(NETWORKS) if chance.random() < 0.95 else (1, chance.choice((-1, 31, 33)))
+    if chance.random() < 0.4:
+        return some_asking_call(chance, net, bits)
     kind = chance.random()
     if kind < 0.005:
         return begin(chance.choice(NUMBERS))
@@ -116,9 +166,9 @@ def some_call(chance):
         return back(k, net, bits)
     pool = chance.choice(((4, 5, 6), (4, 5) + NUMBERS))
     path = [chance.choice(pool) for _ in range(16)]
-    count = chance.choice((1, 1, 2, 2, 3, 15, 16, 0, 17))
+    length = chance.choice((1, 1, 2, 2, 3, 15, 16, 0, 17))
     few = [chance.choice((0, 0, 0, 1)) for _ in range(2)]
-    return tell(k, net, bits, path, count=count, pref=few[0], origin=chance.choice((0, 0, 1, 2, 3)), med=few[1])
+    return tell(k, net, bits, path, count=length, pref=few[0], origin=chance.choice((0, 0, 1, 2, 3)), med=few[1])
 
 
 class BesidePlain(unittest.TestCase):
@@ -126,24 +176,33 @@ class BesidePlain(unittest.TestCase):
         for seed in range(40):
             chance = random.Random(seed)
             router, plain = Router(), Plain()
-            for step in range(300):
+            for step in range(400):
                 call = some_call(chance)
                 self.assertEqual(do(router, call), do(plain, call), (seed, step, call))
                 self.assertEqual(all_of(router), plain.all_of(), (seed, step, call))
-                self.some_told(chance, router, plain)
+                self.take_the_whole_row(chance, router, plain)
 
-    def some_told(self, chance, router, plain):
-        """There is no call yet by which neighbours are told: the row's pairs are taken from outside."""
-        if chance.random() < 0.03:
-            take_all(router)
-            plain.take_all()
-        elif plain.row and chance.random() < 0.3:
-            pair = plain.row[0]
-            what = plain.due(pair[0], pair[1:])
-            if what is not None:
-                set_told(router, *pair, *what)
-                plain.told[pair] = what
-                plain.row = plain.row[1:]
+    def take_the_whole_row(self, chance, router, plain):
+        if chance.random() < 0.02:
+            for _ in range(len(plain.row) + 1):
+                self.assertEqual(do(router, next_told()), do(plain, next_told()))
+            self.assertEqual(all_of(router), plain.all_of())
+
+    def test_mixed_calls_in_a_list(self):
+        kinds = set()
+        for seed in range(40):
+            chance = random.Random(1000 + seed)
+            plain = Plain()
+            calls = [begin(chance.choice(NUMBERS))] + [some_call(chance) for _ in range(400)]
+            expected = []
+            for call in calls:
+                answer = do(plain, call)
+                answered = answer if isinstance(answer, list) else [answer]
+                expected += [len(answered)] + answered
+                # Only what is taken back has a count of 0.
+                kinds.add((call[0], answered[0], answered[3:4] == [0]))
+            self.assertEqual(answers(line(*calls)), expected, seed)
+        self.assertEqual(kinds & set(KINDS), set(KINDS))
 
 
 if __name__ == "__main__":

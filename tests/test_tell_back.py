@@ -1,20 +1,10 @@
 import unittest
 
 from tests.helper import (
-    GREATEST, INT_ENDS, SELF, all_of, back, best_teller, do, do_all, down, due_for, held, router_with, row,
-    set_told, take_all, tell, told, up,
+    GREATEST, INT_ENDS, NETWORKS, NO_NETWORKS, SELF, all_of, back, best_teller, do, do_all, down, due_for, held,
+    router_with, row, take_all, tell, told, up,
 )
 
-# Networks, among them those with the fewest and the most bits.
-NETWORKS = (
-    (0, 0), (0, 1), (1 << 31, 1), (0, 8), (10 << 24, 8), (0xFFFFFF00, 24), (0xFFFFFFFE, 31), (0, 31),
-    (0, 32), (1, 32), (GREATEST, 32),
-)
-# A bit set that doesn't count, or a count of bits that there can't be.
-NO_NETWORKS = (
-    (1, 0), (1 << 31, 0), (GREATEST, 0), (1 << 30, 1), ((10 << 24) + 1, 8), ((10 << 24) + (1 << 23), 8),
-    (1, 31), (0xFFFFFF80, 24), (0, -1), (0, 33), (0, INT_ENDS[0]), (0, INT_ENDS[1]),
-)
 NOT_UP = (1, 7, -1, 8, -8) + INT_ENDS
 
 
@@ -170,7 +160,7 @@ class Full(unittest.TestCase):
         self.assertEqual(sorted(self.router.networks), [(4095, 32)])
 
     def test_what_stands_only_as_told_counts(self):
-        set_told(self.router, 1, 7, 32, (SELF, 1), 0)
+        take_all(self.router)
         self.assertEqual(do(self.router, back(0, 7, 32)), 0)
         self.refuse(tell(0, 4095, 32), -2)
         # That network itself is counted already.
@@ -183,12 +173,12 @@ class Full(unittest.TestCase):
         self.refuse(tell(1, 4095, 32), -2)
 
     def test_told_to_one_that_is_down_does_not_count(self):
-        set_told(self.router, 1, 7, 32, (SELF, 1), 0)
+        take_all(self.router)
         calls = [back(0, 7, 32), down(1), tell(0, 4095, 32), tell(0, 4096, 32)]
         self.assertEqual(do_all(self.router, calls), [0, 0, 0, -2])
 
     def test_taken_back_does_not_count(self):
-        set_told(self.router, 1, 7, 32, (SELF, 1), 0)
+        take_all(self.router)
         do(self.router, back(0, 7, 32))
         take_all(self.router)
         self.assertNotIn((1, 7, 32), told(self.router))
